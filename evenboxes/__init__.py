@@ -1,0 +1,1 @@
+"""Evenboxes: assorted boxes shared evenly."""

@@ -1,0 +1,107 @@
+"""Some rules for the files of the package that a program can check: a part of them, not all."""
+
+import ast
+import builtins
+import pathlib
+import unittest
+
+FOLDER = pathlib.Path(__file__).resolve().parent.parent / "evenboxes"
+FILES = sorted(FOLDER.rglob("*.py"))
+
+LIBRARY = {
+    "heapq": {"heappush", "heappop", "heapify", "heapreplace", "heappushpop"},
+    "math": {"gcd", "lcm", "isqrt", "comb", "perm", "factorial"},
+    "itertools": {"product", "combinations", "permutations"},
+}
+BUILTINS = set(
+    "len range enumerate zip min max sum abs sorted reversed int str bool bytes list tuple dict set isinstance ord repr "
+    "any all divmod Exception ValueError TypeError KeyError IndexError LookupError ZeroDivisionError ArithmeticError "
+    "OverflowError RuntimeError NotImplementedError AttributeError StopIteration NotImplemented iter next map super "
+    "property staticmethod classmethod object".split()
+)
+BARRED_NODES = (
+    ast.Global, ast.AsyncFunctionDef, ast.AsyncFor, ast.AsyncWith, ast.Await, ast.Import, ast.TryStar, ast.Div,
+)
+DECORATORS = {"property", "staticmethod", "classmethod", "setter"}
+
+
+def tree_of(path):
+    return ast.parse(path.read_text(encoding="utf-8"))
+
+
+class LanguageTest(unittest.TestCase):
+    def nodes(self, wanted):
+        """Pairs of the place and the node, for all nodes of these classes in the package."""
+        return [
+            (f"{path.name}:{getattr(node, 'lineno', 0)}", node)
+            for path in FILES
+            for node in ast.walk(tree_of(path))
+            if isinstance(node, wanted)
+        ]
+
+    def test_only_python_files_in_the_package(self):
+        others = [
+            path for path in FOLDER.rglob("*")
+            if path.is_file() and path.suffix != ".py" and path.parent.name != "__pycache__"
+        ]
+        self.assertEqual(others, [])
+        self.assertIn(FOLDER / "__init__.py", FILES)
+
+    def test_lines_and_characters(self):
+        for path in FILES:
+            text = path.read_text(encoding="utf-8")
+            lines = text.split("\n")
+            with self.subTest(file=path.name):
+                self.assertLessEqual(len(lines), 399)
+                self.assertLessEqual(max(len(line) for line in lines), 120)
+                self.assertEqual([sign for sign in text if not (" " <= sign <= "~" or sign == "\n")], [])
+
+    def test_functions_are_short(self):
+        for place, node in self.nodes(ast.FunctionDef):
+            self.assertLessEqual(node.end_lineno - node.lineno + 1, 40, place)
+
+    def test_imports(self):
+        for place, node in self.nodes(ast.ImportFrom):
+            names = {alias.name for alias in node.names}
+            if node.module in LIBRARY:
+                self.assertLessEqual(names, LIBRARY[node.module], place)
+                self.assertEqual({alias.asname for alias in node.names}, {None}, place)
+            else:
+                self.assertEqual(node.level, 0, place)
+                self.assertTrue(node.module.startswith("evenboxes.") or node.module == "__future__", place)
+                self.assertNotIn("*", names, place)
+
+    def test_no_barred_statements(self):
+        self.assertEqual([place for place, _ in self.nodes(BARRED_NODES)], [])
+
+    def test_no_floats_and_no_percent_in_strings(self):
+        for place, node in self.nodes(ast.Constant):
+            self.assertNotIsInstance(node.value, (float, complex), place)
+            if isinstance(node.value, str):
+                self.assertNotIn("%", node.value, place)
+
+    def test_decorators(self):
+        for place, node in self.nodes((ast.FunctionDef, ast.ClassDef)):
+            for decorator in node.decorator_list:
+                name = decorator.attr if isinstance(decorator, ast.Attribute) else decorator.id
+                self.assertIn(name, DECORATORS, place)
+
+    def test_builtins(self):
+        for place, node in self.nodes(ast.Name):
+            if node.id in vars(builtins):
+                self.assertIn(node.id, BUILTINS, place)
+                self.assertIsInstance(node.ctx, ast.Load, place)
+
+    def test_parameters_functions_and_classes_have_no_names_of_builtins(self):
+        for place, node in self.nodes((ast.arg, ast.FunctionDef, ast.ClassDef)):
+            name = node.arg if isinstance(node, ast.arg) else node.name
+            self.assertNotIn(name, vars(builtins), place)
+
+    def test_any_and_all_and_their_kin_take_lists(self):
+        for place, node in self.nodes(ast.Call):
+            if isinstance(node.func, ast.Name) and node.func.id in ("any", "all", "min", "max", "sum", "sorted"):
+                self.assertEqual([part for part in node.args if isinstance(part, ast.GeneratorExp)], [], place)
+
+
+if __name__ == "__main__":
+    unittest.main()
