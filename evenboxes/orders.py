@@ -2,9 +2,9 @@
 
 from math import gcd
 
-from evenboxes.errors import InvalidKinds, InvalidMeasures, InvalidNumber, InvalidPeople, InvalidText
+from evenboxes.errors import InvalidKinds, InvalidMeasures, InvalidPeople, InvalidText, NotAnOrder
 from evenboxes.limits import MOST_COUNT, MOST_KINDS, MOST_PEOPLE, MOST_SHARE, MOST_WORTH
-from evenboxes.valid import is_integer_within, is_name, is_number
+from evenboxes.valid import check_number, is_integer_within, is_name
 
 _MOST_MEASURES = 2
 _FEWEST_PEOPLE = 2
@@ -53,8 +53,7 @@ class Order:
 
     def due(self, boxes):
         """For each person and each measure the pair (top, bottom) that tells what is due."""
-        if not is_number(boxes):
-            raise InvalidNumber(boxes)
+        check_number(boxes)
         totals = [boxes * _box_worth(self._kinds, place) for place in range(len(self._measures))]
         shares = [share for name, share, refused in self._people]
         all_shares = sum(shares)
@@ -68,6 +67,12 @@ class Order:
 
     def __repr__(self):
         return f"Order of {len(self._kinds)} kinds, {len(self._people)} people"
+
+
+def check_order(value):
+    """Raises NotAnOrder if this is no order."""
+    if not isinstance(value, Order):
+        raise NotAnOrder(value)
 
 
 def _check_measures(measures):

@@ -1,5 +1,7 @@
 """What integers and names are, for all modules that check what is passed."""
 
+from evenboxes.errors import InvalidNumber
+
 _LETTERS = "abcdefghijklmnopqrstuvwxyz"
 _LETTERS_AND_DIGITS = "abcdefghijklmnopqrstuvwxyz0123456789"
 _LONGEST_NAME = 8
@@ -13,6 +15,12 @@ def is_integer(value):
 def is_number(value):
     """Whether this is an integer from 0 on."""
     return is_integer(value) and value >= 0
+
+
+def check_number(value):
+    """Raises InvalidNumber if this is no integer from 0 on."""
+    if not is_number(value):
+        raise InvalidNumber(value)
 
 
 def is_integer_within(value, least, most):

@@ -23,6 +23,17 @@ BARRED_NODES = (
     ast.Global, ast.AsyncFunctionDef, ast.AsyncFor, ast.AsyncWith, ast.Await, ast.Import, ast.TryStar, ast.Div,
 )
 DECORATORS = {"property", "staticmethod", "classmethod", "setter"}
+BARRED_NAMES = set(
+    "register mro elements open input law version_info with_traceback add_note attrgetter breakpoint builtins compile "
+    "copyright credits delattr dir eval exec exit gc getattr globals hasattr help id importlib license locals "
+    "methodcaller os quit setattr vars sys enum typing dataclass".split()
+)
+METHODS = set(
+    "append clear copy count endswith extend find get index insert isalnum isalpha isdigit islower isspace isupper "
+    "items join keys ljust lower lstrip partition pop remove replace reverse rfind rjust rpartition rsplit rstrip "
+    "setdefault split splitlines startswith strip update upper values zfill bit_length add discard".split()
+)
+OPERATORS = {"__add__", "__and__", "__contains__", "__bool__", "__eq__", "__repr__", "__str__", "__len__"}
 
 
 def tree_of(path):
@@ -96,6 +107,57 @@ class LanguageTest(unittest.TestCase):
         for place, node in self.nodes((ast.arg, ast.FunctionDef, ast.ClassDef)):
             name = node.arg if isinstance(node, ast.arg) else node.name
             self.assertNotIn(name, vars(builtins), place)
+
+    def test_barred_names(self):
+        for place, node in self.nodes((ast.Name, ast.arg, ast.FunctionDef, ast.ClassDef, ast.Attribute, ast.alias)):
+            for field in ("id", "arg", "name", "attr"):
+                self.assertNotIn(getattr(node, field, None), BARRED_NAMES, place)
+
+    def test_methods_of_builtin_values(self):
+        own = {node.name for _, node in self.nodes(ast.FunctionDef)}
+        for place, node in self.nodes(ast.Call):
+            if isinstance(node.func, ast.Attribute):
+                self.assertIn(node.func.attr, METHODS | own, place)
+
+    def test_what_operators_and_properties_run_changes_nothing(self):
+        functions = {}
+        for _, node in self.nodes((ast.FunctionDef, ast.ClassDef)):
+            functions.setdefault(node.name, []).append(node)
+        begun = [
+            node for _, node in self.nodes(ast.FunctionDef)
+            if node.name in OPERATORS
+            or any(isinstance(word, ast.Name) and word.id == "property" for word in node.decorator_list)
+        ]
+        seen = []
+        while begun:
+            node = begun.pop()
+            if node in seen:
+                continue
+            seen.append(node)
+            self.check_that_nothing_is_changed(node)
+            for part in ast.walk(node):
+                if isinstance(part, ast.Call):
+                    name = part.func.id if isinstance(part.func, ast.Name) else part.func.attr
+                    begun.extend(functions.get(name, []))
+        self.assertGreater(len(seen), 15)
+
+    def check_that_nothing_is_changed(self, function):
+        if isinstance(function, ast.ClassDef):
+            return
+        created = {
+            target.id for part in ast.walk(function)
+            if isinstance(part, ast.Assign) and isinstance(part.value, (ast.List, ast.ListComp))
+            for target in part.targets if isinstance(target, ast.Name)
+        }
+        for part in ast.walk(function):
+            place = f"{function.name}:{getattr(part, 'lineno', 0)}"
+            self.assertNotIsInstance(part, (ast.AugAssign, ast.Delete), place)
+            if isinstance(part, ast.Subscript) and not isinstance(part.ctx, ast.Load):
+                self.assertIn(part.value.id, created, place)
+            if isinstance(part, ast.Attribute):
+                self.assertIsInstance(part.ctx, ast.Load, place)
+                if part.attr in ("append", "clear", "extend", "insert", "pop", "remove", "reverse", "update", "add"):
+                    self.assertIn(part.value.id, created, place)
 
     def test_any_and_all_and_their_kin_take_lists(self):
         for place, node in self.nodes(ast.Call):
