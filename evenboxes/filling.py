@@ -1,6 +1,6 @@
 """The ways to give things, and the search for a sharing of a few boxes."""
 
-from evenboxes.plane import point_of, whole_due
+from evenboxes.plane import point_of, takers, whole_due
 
 # A grid tells the points that people can reach: the row x has the bit y for the point (x, y).
 
@@ -13,6 +13,14 @@ def ways(many, rooms):
     least = max(0, many - sum(others))
     most = min(many, rooms[0])
     return [(first, *more) for first in range(least, most + 1) for more in ways(many - first, others)]
+
+
+def can_share(order, boxes):
+    """Whether so many boxes, a few, can be shared."""
+    if boxes == 0:
+        return True
+    chances = takers(order)
+    return chances != () and fill(order, boxes, chances) is not None
 
 
 def fill(order, boxes, chances):

@@ -4,7 +4,7 @@ from math import gcd
 
 from evenboxes.errors import InvalidKinds, InvalidMeasures, InvalidPeople, InvalidText, NotAnOrder
 from evenboxes.limits import MOST_COUNT, MOST_KINDS, MOST_PEOPLE, MOST_SHARE, MOST_WORTH
-from evenboxes.valid import check_number, is_integer_within, is_name
+from evenboxes.valid import check_number, is_integer_within, is_name, is_tuple_of
 
 _MOST_MEASURES = 2
 _FEWEST_PEOPLE = 2
@@ -25,16 +25,7 @@ class Order:
     @classmethod
     def read(cls, text):
         """The order that has this text."""
-        if not isinstance(text, str):
-            raise InvalidText(text)
-        measures, kinds, people = _told(text)
-        try:
-            order = cls(measures, kinds, people)
-        except (InvalidMeasures, InvalidKinds, InvalidPeople):
-            raise InvalidText(text) from None
-        if str(order) != text:
-            raise InvalidText(text)
-        return order
+        return read_order(text)
 
     @property
     def measures(self):
@@ -69,10 +60,48 @@ class Order:
         return f"Order of {len(self._kinds)} kinds, {len(self._people)} people"
 
 
+def read_order(text):
+    """The order that has this text; raises InvalidText if there is none."""
+    if not isinstance(text, str):
+        raise InvalidText(text)
+    measures, kinds, people = _told(text)
+    try:
+        order = Order(measures, kinds, people)
+    except (InvalidMeasures, InvalidKinds, InvalidPeople):
+        raise InvalidText(text) from None
+    if str(order) != text:
+        raise InvalidText(text)
+    return order
+
+
 def check_order(value):
     """Raises NotAnOrder if this is no order."""
     if not isinstance(value, Order):
         raise NotAnOrder(value)
+
+
+def all_shares(order):
+    """The sum of the shares of all people."""
+    return sum([share for name, share, refused in order.people])
+
+
+def takes(order, person, kind):
+    """Whether the person with this index does not refuse the kind with this index."""
+    return order.kinds[kind][0] not in order.people[person][2]
+
+
+def place_of(name, rows):
+    """The index of the kind or the person with this name, None if this is no name of one."""
+    names = _names(rows)
+    # Only names are compared with names: any other value might claim to equal one.
+    if not is_name(name) or name not in names:
+        return None
+    return names.index(name)
+
+
+def are_worths(value, many):
+    """Whether these are worths of a kind, so many."""
+    return is_tuple_of(value, many) and all([is_integer_within(worth, 0, MOST_WORTH) for worth in value])
 
 
 def _check_measures(measures):
@@ -100,20 +129,14 @@ def _check_people(people, kind_names, most):
 
 
 def _is_kind(value, worths_wanted):
-    if not isinstance(value, tuple) or len(value) != 3:
+    if not is_tuple_of(value, 3):
         return False
     name, count, worths = value
-    return is_name(name) and is_integer_within(count, 1, MOST_COUNT) and _are_worths(worths, worths_wanted)
-
-
-def _are_worths(value, many):
-    if not isinstance(value, tuple) or len(value) != many:
-        return False
-    return all([is_integer_within(worth, 0, MOST_WORTH) for worth in value])
+    return is_name(name) and is_integer_within(count, 1, MOST_COUNT) and are_worths(worths, worths_wanted)
 
 
 def _is_person(value, kind_names):
-    if not isinstance(value, tuple) or len(value) != 3:
+    if not is_tuple_of(value, 3):
         return False
     name, share, refused = value
     return is_name(name) and is_integer_within(share, 1, MOST_SHARE) and _are_refused(refused, kind_names)

@@ -6,14 +6,14 @@ from evenboxes.limits import MOST_BOXES, MOST_ROWS
 from evenboxes.numbers import Numbers
 from evenboxes.orders import check_order
 from evenboxes.plane import common_divisor, takers, whole_due
-from evenboxes.valid import check_number, is_integer_within, is_number
+from evenboxes.valid import check_number, is_integer_within, is_number, is_tuple_of
 
 
 def is_sharing(order, boxes, sharing):
     """Whether this is a sharing of so many boxes."""
     check_order(order)
     check_number(boxes)
-    if not _is_tuple_of(sharing, len(order.people)):
+    if not is_tuple_of(sharing, len(order.people)):
         return False
     if not all([_are_gifts(order, person, gifts) for person, gifts in zip(order.people, sharing)]):
         return False
@@ -71,13 +71,9 @@ def used(order):
     return tuple(sorted([(person, at) for at, row in enumerate(takers(order)) for person, point in row]))
 
 
-def _is_tuple_of(value, many):
-    return isinstance(value, tuple) and len(value) == many
-
-
 def _are_gifts(order, person, gifts):
     """Whether this tells how many things of each kind the person gets, none of what is refused."""
-    if not _is_tuple_of(gifts, len(order.kinds)) or not all([is_number(count) for count in gifts]):
+    if not is_tuple_of(gifts, len(order.kinds)) or not all([is_number(count) for count in gifts]):
         return False
     refused = person[2]
     return all([count == 0 or kind[0] not in refused for count, kind in zip(gifts, order.kinds)])

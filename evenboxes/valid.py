@@ -28,6 +28,16 @@ def is_integer_within(value, least, most):
     return is_integer(value) and least <= value <= most
 
 
+def is_tuple_of(value, many):
+    """Whether this is a tuple with so many elements."""
+    return isinstance(value, tuple) and len(value) == many
+
+
+def are_integers(value):
+    """Whether this is a tuple of integers."""
+    return isinstance(value, tuple) and all([is_integer(part) for part in value])
+
+
 def is_name(value):
     """Whether this is a letter and up to seven letters or digits behind it."""
     if not isinstance(value, str) or not 1 <= len(value) <= _LONGEST_NAME:

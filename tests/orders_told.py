@@ -76,3 +76,15 @@ NOT_TOLD = (
     (order("measure x, y", "kind a 2: 5, 1", "kind b 2: 0, 3", "kind c 1: 4, 5", "kind d 2: 3, 5",
            "person p 3 without c", "person q 1"), None),
 )
+
+# Triples of an order, a number of boxes, not possible, and how many tuples the table has in all.
+LONG_TABLES = (
+    (order("measure x, y", "kind a 1: 1, 5", "kind b 3: 5, 5", "kind c 2: 5, 4", "kind d 2: 2, 5", "person p 2",
+           "person q 3 without d"), 10, 2000),
+    (order("measure x, y", "kind a 2: 6, 1", "kind b 1: 1, 0", "kind c 2: 2, 1", "kind d 3: 4, 3", "person p 2",
+           "person q 1 without d"), 12, 2000),
+    (order("measure x, y", "kind a 3: 3, 5", "kind b 2: 2, 3", "kind c 3: 3, 6", "kind d 2: 5, 3",
+           "person p 3 without d", "person q 3 without d"), 10, 2001),
+    (order("measure x, y", "kind a 2: 1, 2", "kind b 1: 5, 5", "kind c 2: 4, 1", "kind d 2: 1, 4",
+           "person p 1 without d", "person q 1 without d"), 12, 2001),
+)

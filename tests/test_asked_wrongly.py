@@ -3,6 +3,7 @@
 import unittest
 
 from evenboxes.errors import InvalidNumber, NotAnOrder
+from evenboxes.mending import least_changes
 from evenboxes.orders import Order
 from evenboxes.reasons import reason
 from evenboxes.sharing import is_sharing, possible, sharing, table, used
@@ -28,6 +29,7 @@ class AskedWronglyTest(RefusalCase):
                 lambda: sharing(value, 1), lambda: sharing(boxes=1, order=value),
                 lambda: reason(value, 1), lambda: reason(boxes=1, order=value),
                 lambda: is_sharing(value, 1, ()), lambda: is_sharing(sharing=(), boxes=1, order=value),
+                lambda: least_changes(value, 1, ()), lambda: least_changes(changes=(), boxes=1, order=value),
             )
 
     def test_no_order_comes_first(self):
@@ -36,7 +38,7 @@ class AskedWronglyTest(RefusalCase):
                 self.refuse(
                     NotAnOrder, "given", value,
                     lambda: table(value, boxes), lambda: sharing(value, boxes), lambda: reason(value, boxes),
-                    lambda: is_sharing(value, boxes, None),
+                    lambda: is_sharing(value, boxes, None), lambda: least_changes(value, boxes, None),
                     lambda: table(boxes=boxes, order=value), lambda: sharing(boxes=boxes, order=value),
                     lambda: reason(boxes=boxes, order=value), lambda: is_sharing(sharing=1, boxes=boxes, order=value),
                 )
@@ -51,6 +53,8 @@ class AskedWronglyTest(RefusalCase):
                     lambda: reason(order, value), lambda: reason(boxes=value, order=order),
                     lambda: is_sharing(order, value, ((0, 0), (0, 0))),
                     lambda: is_sharing(sharing=None, boxes=value, order=order),
+                    lambda: least_changes(order, value, None),
+                    lambda: least_changes(changes=None, boxes=value, order=order),
                 )
 
 

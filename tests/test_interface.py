@@ -1,4 +1,4 @@
-"""The names and parameters of the interface, as far as it has been built."""
+"""The names and parameters of the interface."""
 
 import importlib
 import inspect
@@ -14,6 +14,15 @@ FUNCTIONS = {
         "used": ("order",),
     },
     "reasons": {"reason": ("order", "boxes")},
+    "mending": {"least_changes": ("order", "boxes", "changes")},
+    "checker": {"accepts": ("claim", "certificate")},
+    "certificates": {
+        "certify_possible": ("order", "boxes"),
+        "certify_nothing": ("order",),
+        "certify_unused": ("order", "person", "kind"),
+        "certify_multiples": ("order",),
+        "certify_not": ("order", "boxes"),
+    },
 }
 
 # For each module the classes with their methods and the parameters of these; None for a property.
@@ -46,6 +55,26 @@ CLASSES = {
             "__eq__": ("other",),
             "__bool__": (),
             "__repr__": (),
+        },
+    },
+    "desks": {
+        "Desk": {
+            "__init__": (),
+            "__setitem__": ("name", "order"),
+            "__getitem__": ("name",),
+            "remove": ("name",),
+            "promise": ("promise",),
+            "lift": ("index",),
+            "undo": (),
+            "names": None,
+            "promises": None,
+            "changes": None,
+            "__contains__": ("value",),
+            "__len__": (),
+            "__bool__": (),
+            "__eq__": ("other",),
+            "trial": (),
+            "tried": ("action",),
         },
     },
 }

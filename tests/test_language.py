@@ -19,6 +19,8 @@ BUILTINS = set(
     "OverflowError RuntimeError NotImplementedError AttributeError StopIteration NotImplemented iter next map super "
     "property staticmethod classmethod object".split()
 )
+# Doctests keep what was shown last as `_` there.
+OF_PYTHON = set(vars(builtins)) - {"_"}
 BARRED_NODES = (
     ast.Global, ast.AsyncFunctionDef, ast.AsyncFor, ast.AsyncWith, ast.Await, ast.Import, ast.TryStar, ast.Div,
 )
@@ -33,7 +35,15 @@ METHODS = set(
     "items join keys ljust lower lstrip partition pop remove replace reverse rfind rjust rpartition rsplit rstrip "
     "setdefault split splitlines startswith strip update upper values zfill bit_length add discard".split()
 )
-OPERATORS = {"__add__", "__and__", "__contains__", "__bool__", "__eq__", "__repr__", "__str__", "__len__"}
+OPERATORS = {
+    "__add__", "__and__", "__contains__", "__bool__", "__eq__", "__repr__", "__str__", "__len__", "__getitem__",
+    "__iter__",
+}
+# What the rows of `__exit__` may be made of.
+PLAIN_ROWS = (
+    ast.FunctionDef, ast.arguments, ast.arg, ast.Assign, ast.If, ast.Compare, ast.Is, ast.IsNot, ast.Constant, ast.Name,
+    ast.Attribute, ast.Load, ast.Store, ast.Expr, ast.Pass, ast.Return,
+)
 
 
 def tree_of(path):
@@ -99,14 +109,14 @@ class LanguageTest(unittest.TestCase):
 
     def test_builtins(self):
         for place, node in self.nodes(ast.Name):
-            if node.id in vars(builtins):
+            if node.id in OF_PYTHON:
                 self.assertIn(node.id, BUILTINS, place)
                 self.assertIsInstance(node.ctx, ast.Load, place)
 
     def test_parameters_functions_and_classes_have_no_names_of_builtins(self):
         for place, node in self.nodes((ast.arg, ast.FunctionDef, ast.ClassDef)):
             name = node.arg if isinstance(node, ast.arg) else node.name
-            self.assertNotIn(name, vars(builtins), place)
+            self.assertNotIn(name, OF_PYTHON, place)
 
     def test_barred_names(self):
         for place, node in self.nodes((ast.Name, ast.arg, ast.FunctionDef, ast.ClassDef, ast.Attribute, ast.alias)):
@@ -158,6 +168,79 @@ class LanguageTest(unittest.TestCase):
                 self.assertIsInstance(part.ctx, ast.Load, place)
                 if part.attr in ("append", "clear", "extend", "insert", "pop", "remove", "reverse", "update", "add"):
                     self.assertIn(part.value.id, created, place)
+
+    def test_nothing_but_plain_rows_at_the_end_of_a_trial(self):
+        found = [(place, node) for place, node in self.nodes(ast.FunctionDef) if node.name == "__exit__"]
+        self.assertEqual(len(found), 1)
+        for place, function in found:
+            self.assertEqual([word.arg for word in function.args.args], ["self", "kind", "value", "trace"])
+            for part in ast.walk(function):
+                self.assertIsInstance(part, PLAIN_ROWS, place)
+                if isinstance(part, ast.Assign):
+                    self.assertEqual([type(target) for target in part.targets], [ast.Attribute], place)
+                if isinstance(part, ast.Name):
+                    self.assertIn(part.id, ("self", "kind"), place)
+
+    def test_classes_with_items_are_not_iterated_over(self):
+        for place, node in self.nodes(ast.ClassDef):
+            methods = {part.name: part for part in node.body if isinstance(part, ast.FunctionDef)}
+            if "__getitem__" in methods:
+                self.assertIsInstance(methods["__iter__"].body[0], ast.Raise, place)
+        names = [node.attr for _, node in self.nodes(ast.Attribute)] + [
+            node.name for _, node in self.nodes(ast.FunctionDef)
+        ]
+        self.assertNotIn("keys", names)
+
+    def test_is_stands_beside_none_and_self_alone(self):
+        for place, node in self.nodes(ast.Compare):
+            for sign, side in zip(node.ops, node.comparators):
+                if isinstance(sign, (ast.Is, ast.IsNot)):
+                    self_alone = isinstance(node.left, ast.Name) and node.left.id == "self"
+                    self.assertTrue(self_alone or isinstance(side, ast.Constant) and side.value is None, place)
+
+    def test_no_method_is_read_off_a_class(self):
+        classes = {node.name for _, node in self.nodes(ast.ClassDef)}
+        for place, node in self.nodes(ast.Attribute):
+            if isinstance(node.value, ast.Name):
+                self.assertNotIn(node.value.id, classes, place)
+
+    def test_no_attribute_that_is_stored_has_the_name_of_a_method(self):
+        methods = {node.name for _, cls in self.nodes(ast.ClassDef) for node in cls.body if hasattr(node, "name")}
+        for place, node in self.nodes(ast.Attribute):
+            if isinstance(node.ctx, ast.Store):
+                self.assertNotIn(node.attr, methods, place)
+
+    def test_local_names_are_not_those_of_imports_and_classes(self):
+        for path in FILES:
+            tree = tree_of(path)
+            taken = {node.name for node in ast.walk(tree) if isinstance(node, ast.ClassDef)} | {
+                alias.name for node in ast.walk(tree) if isinstance(node, ast.ImportFrom) for alias in node.names
+            }
+            for node in ast.walk(tree):
+                name = node.arg if isinstance(node, ast.arg) else getattr(node, "id", None)
+                if isinstance(node, ast.arg) or isinstance(getattr(node, "ctx", None), ast.Store):
+                    self.assertNotIn(name, taken, f"{path.name}:{node.lineno}")
+
+    def test_no_files_import_from_each_other(self):
+        imports = {
+            path.stem: [
+                node.module.split(".")[1] for node in ast.walk(tree_of(path))
+                if isinstance(node, ast.ImportFrom) and node.module.startswith("evenboxes.")
+            ]
+            for path in FILES
+        }
+        while imports:
+            free = [name for name, needed in imports.items() if not set(needed) & set(imports)]
+            self.assertNotEqual(free, [], imports)
+            imports = {name: needed for name, needed in imports.items() if name not in free}
+
+    def test_all_that_is_imported_is_used(self):
+        for path in FILES:
+            tree = tree_of(path)
+            read = {node.id for node in ast.walk(tree) if isinstance(node, ast.Name)}
+            for node in ast.walk(tree):
+                if isinstance(node, ast.ImportFrom):
+                    self.assertLessEqual({alias.name for alias in node.names}, read, path.name)
 
     def test_any_and_all_and_their_kin_take_lists(self):
         for place, node in self.nodes(ast.Call):
