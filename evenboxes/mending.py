@@ -16,9 +16,9 @@ def least_changes(order, boxes, changes):
     found = []
     for places in _all_sets(len(changes)):
         # Sets come behind those with fewer places, so each part of this one that is a least set has been found.
+        # If two changes tell the same number or worths, the last one stands: without the other, this was tried before.
         if not any([_is_part(least, places) for least in found]):
-            chosen = [changes[at] for at in places]
-            if _can_be_made(chosen) and can_share(_changed(order, chosen), boxes):
+            if can_share(_changed(order, [changes[at] for at in places]), boxes):
                 found.append(places)
     return tuple(found)
 
@@ -56,12 +56,6 @@ def _all_sets(many):
 
 def _is_part(part, places):
     return all([at in places for at in part])
-
-
-def _can_be_made(chosen):
-    """Whether these changes can be made at once: none is told twice, but for what people take."""
-    told = [(word, name) for word, name, wished in chosen if word != "takes"]
-    return len(set(told)) == len(told)
 
 
 def _changed(order, chosen):

@@ -4,9 +4,9 @@ import unittest
 
 from evenboxes.desks import Desk
 from evenboxes.errors import Broken, InUse, InvalidPromise, NothingToUndo, UnknownName
+from tests.desks_told import desk_with, state
 from tests.orders_told import EGGS, FRUIT, FUSSY
 from tests.refusals import RefusalCase
-from tests.test_desk_orders import desk_with, state
 
 
 class Fails(Exception):

@@ -3,23 +3,13 @@ import unittest
 from evenboxes.desks import Desk
 from evenboxes.errors import InUse, InvalidName, NotAnOrder, UnknownName
 from evenboxes.orders import Order
+from tests.desks_told import desk_with, state
 from tests.orders_told import EGGS, FRUIT, FUSSY, NOT_TOLD
 from tests.refusals import RefusalCase
 from tests.samples import Liar, fruit, names_refused, values_of_all_kinds
 
 NAMES = ("a", "z", "abcdefgh", "a2345678", "z0", "names", "desk", "order")
 NO_ORDERS = [value for value in values_of_all_kinds() if not isinstance(value, Order)] + [0, 1, str(FRUIT), fruit()]
-
-
-def state(desk):
-    return (desk.names, tuple(desk[name] for name in desk.names), desk.promises, desk.changes, len(desk))
-
-
-def desk_with(*pairs):
-    desk = Desk()
-    for name, order in pairs:
-        desk[name] = order
-    return desk
 
 
 class DeskOrdersTest(RefusalCase):

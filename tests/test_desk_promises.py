@@ -1,10 +1,10 @@
 import unittest
 
 from evenboxes.errors import Broken, InvalidIndex, InvalidPromise, TooMany, UnknownName
+from tests.desks_told import desk_with, state
 from tests.orders_told import ANSWERED, EGGS, FRUIT, FUSSY, NOT_TOLD, order
 from tests.refusals import RefusalCase
 from tests.samples import BIG, Liar, names_refused, values_of_all_kinds
-from tests.test_desk_orders import desk_with, state
 
 ALL = order("measure n", "kind egg 2: 1", "person a 1", "person b 1")
 THREES = order("measure n", "kind egg 1: 6", "person a 3", "person b 3", "person c 3")
