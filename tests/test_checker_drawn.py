@@ -8,7 +8,8 @@ from evenboxes.checker import accepts
 from evenboxes.errors import TooMany
 from tests.drawn import Draws, drawn_order, small_orders
 from tests.judge_claims import is_certificate, is_true
-from tests.orders_told import order
+from tests.orders_told import EGGS, FRUIT, FUSSY, order
+from tests.samples import values_of_all_kinds
 
 
 def changed(draws, value):
@@ -41,6 +42,32 @@ def certified(some, draws):
         except TooMany:
             pass
     return [pair for pair in given if pair is not None]
+
+
+ATOMS = values_of_all_kinds() + [0, 1, 2, 3, 12, 13, 10 ** 30, "ann", "plum", "egg", "possible", "not", str(EGGS), EGGS]
+
+
+def drawn_value(draws, depth):
+    """Any value, with parts of parts at most."""
+    if depth == 0 or draws.below(2) == 0:
+        return draws.one_of(ATOMS)
+    parts = [drawn_value(draws, depth - 1) for _ in range(draws.below(4))]
+    return draws.one_of((tuple, tuple, tuple, tuple, list))(parts)
+
+
+class AnythingTest(unittest.TestCase):
+    def test_false_for_drawn_values(self):
+        draws = Draws(147)
+        words = ("possible", "nothing", "unused", "multiples", "not")
+        for _ in range(20000):
+            claim = (draws.one_of(words), draws.one_of((str(EGGS), str(FRUIT), str(FUSSY))))
+            claim += tuple(drawn_value(draws, 1) for _ in range(draws.below(3)))
+            certificate = drawn_value(draws, 4)
+            self.assertIs(accepts(drawn_value(draws, 2), certificate), False)
+            # By chance it may be told right that an odd number of the eggs' boxes is not possible.
+            odd = claim[:2] == ("not", str(EGGS)) and len(claim) == 3 and type(claim[2]) is int and claim[2] in (1, 3)
+            good = odd and type(certificate) is tuple and certificate == ()
+            self.assertIs(accepts(claim, certificate), good, repr((claim, certificate)))
 
 
 class DrawnCertificatesTest(unittest.TestCase):
